@@ -14,6 +14,9 @@ FILES = sorted(path for path in PACKAGE.rglob("*") if path.is_file() and "__pyca
 
 STATEMENTS = (ast.Assign, ast.AugAssign, ast.If, ast.While, ast.For, ast.Return, ast.Break, ast.Continue, ast.Pass,
               ast.Raise, ast.Try, ast.Expr, ast.FunctionDef, ast.ClassDef)
+EXPRESSIONS = (ast.Constant, ast.Name, ast.List, ast.Tuple, ast.Dict, ast.BinOp, ast.UnaryOp, ast.BoolOp, ast.Compare,
+               ast.IfExp, ast.Call, ast.Attribute, ast.Subscript, ast.Slice, ast.ListComp, ast.JoinedStr,
+               ast.FormattedValue)
 BUILTINS = """len range enumerate zip min max sum abs sorted reversed int str bool list tuple dict set isinstance ord
 repr any all divmod ValueError KeyError IndexError LookupError ZeroDivisionError NotImplementedError""".split()
 METHODS = """append clear copy count endswith extend find get index insert isalnum isalpha isdigit islower isspace
@@ -58,6 +61,21 @@ class Form(unittest.TestCase):
         for name, node in nodes(ast.stmt):
             self.assertIsInstance(node, STATEMENTS, (name, node.lineno))
 
+    def test_expressions(self):
+        for name, node in nodes(ast.expr):
+            self.assertIsInstance(node, EXPRESSIONS, (name, node.lineno))
+        for name, node in nodes(ast.Constant):
+            self.assertIsInstance(node.value, (int, str), (name, node.lineno))
+        for name, node in nodes(ast.ListComp):
+            self.assertEqual(len(node.generators), 1, (name, node.lineno))
+            self.assertLessEqual(len(node.generators[0].ifs), 1, (name, node.lineno))
+        self.assertEqual(nodes((ast.Div, ast.MatMult, ast.Is, ast.IsNot)), [])
+
+    def test_one_target(self):
+        for name, node in nodes(ast.Assign):
+            self.assertEqual(len(node.targets), 1, (name, node.lineno))
+            self.assertNotIsInstance(node.targets[0], (ast.Tuple, ast.List), (name, node.lineno))
+
     def test_names(self):
         for name, node in nodes(ast.Name):
             if hasattr(builtins, node.id):
@@ -69,6 +87,11 @@ class Form(unittest.TestCase):
         own += [node.attr for name, node in nodes(ast.Attribute) if isinstance(node.ctx, ast.Store)]
         for name, node in nodes(ast.Attribute):
             self.assertIn(node.attr, own + METHODS, (name, node.lineno))
+
+    def test_no_name_is_a_method_and_a_value(self):
+        methods = [node.name for name, node in nodes(ast.FunctionDef)]
+        values = [node.attr for name, node in nodes(ast.Attribute) if isinstance(node.ctx, ast.Store)]
+        self.assertEqual(set(methods) & set(values), set())
 
     def test_the_interface(self):
         self.assertEqual(str(inspect.signature(day.answers)), "(calls)")
